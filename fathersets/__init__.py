@@ -1,0 +1,1 @@
+"""Sets of men, each man so many sets behind his father."""
