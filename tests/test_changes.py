@@ -2,7 +2,7 @@
 
 import unittest
 
-from tests.helper import FAMILY, LARGEST, last_reply, probes, replies
+from tests.helper import BY_MAN_ALONE, FAMILY, LARGEST, behind_it, last_reply, probes, replies, trail
 
 START = ("start", 7, 2, 5, 12)
 FULL = [START] + [("son", 0, year) for year in range(1, 24)]
@@ -10,11 +10,10 @@ FULL = [START] + [("son", 0, year) for year in range(1, 24)]
 
 class RefusedLeavesAll(unittest.TestCase):
     def refuse(self, ahead, call, refusal):
-        asked = probes()
-        before = replies(ahead + asked)[-len(asked):]
-        told = replies(ahead + [call] + asked)
-        self.assertEqual(told[len(ahead)], [refusal])
-        self.assertEqual(told[-len(asked):], before)
+        for asked in (probes(), trail()):
+            told = behind_it(ahead, [call] + asked)
+            self.assertEqual(told[0], [refusal])
+            self.assertEqual(told[1:], behind_it(ahead, asked))
 
     def test_son(self):
         self.refuse(FAMILY, ("son", 5, 90), -2)
@@ -91,7 +90,7 @@ class Drop(unittest.TestCase):
         self.assertEqual(told[-5:], [[4], [3], [2], [1], [-6]])
 
     def test_the_one_told_last_is_not_there(self):
-        for name in ("enters", "age", "born_into", "fathers", "drift", "line"):
+        for name in BY_MAN_ALONE:
             with self.subTest(name=name):
                 told = replies(FAMILY + [("drop",), (name, 4), (name, 3)])
                 self.assertEqual(told[-2], [-2])

@@ -1,10 +1,8 @@
-"""fr_enters, fr_age, fr_grade, fr_born_into, fr_fathers, fr_drift, fr_line (point 3)."""
+"""What is asked of one man: fr_told (point 2), and all of point 3."""
 
 import unittest
 
-from tests.helper import FAMILY, LARGEST, last_reply, replies
-
-BY_MAN_ALONE = ("enters", "age", "born_into", "fathers", "drift", "line")
+from tests.helper import BY_MAN_ALONE, FAMILY, LARGEST, behind_it, last_reply, replies
 
 
 class EachMan(unittest.TestCase):
@@ -28,6 +26,15 @@ class EachMan(unittest.TestCase):
 
     def test_born_into(self):
         self.assertEqual(self.all_men("born_into"), [[-33], [-33], [2], [-33], [-33]])
+
+    def test_told(self):
+        self.assertEqual(self.all_men("told"), [[0, 0, 0], [10, 0, 1], [45, 0, 1], [30, 1, 2], [44, 3, 3]])
+
+    def test_sons(self):
+        self.assertEqual(self.all_men("sons"), [[2, 6], [1, 8], [0, 0], [1, 16], [0, 0]])
+
+    def test_mean(self):
+        self.assertEqual(self.all_men("mean"), [[-33], [10, 0, 1], [45, 0, 1], [15, 0, 2], [14, 2, 3]])
 
 
 class NotThere(unittest.TestCase):
@@ -92,8 +99,9 @@ class Grade(unittest.TestCase):
         self.assertEqual(told[len(FAMILY):], [answer for ignored, answer in years])
 
     def test_brothers_alike_and_first_man_by_himself(self):
-        told = replies(FAMILY + [("grade", 2, 33), ("grade", 0, 11), ("grade", 0, 12), ("grade", 0, 46), ("grade", 0, 47)])
-        self.assertEqual(told[-5:], [[1], [-33], [0], [4], [-33]])
+        pairs = [(2, 33), (0, 11), (0, 12), (0, 46), (0, 47)]
+        told = behind_it(FAMILY, [("grade",) + pair for pair in pairs])
+        self.assertEqual(told, [[1], [-33], [0], [4], [-33]])
 
     def test_one_grade_of_one_year(self):
         told = replies([("start", 1, 1, 1, 3)] + [("grade", 0, year) for year in range(6)])
@@ -149,6 +157,82 @@ class Line(unittest.TestCase):
     def test_widest(self):
         sons = [("start", 7, 2, 5, 12)] + [("son", 0, man + 1) for man in range(23)]
         self.assertEqual(last_reply(sons + [("line", 23)]), [2, 8388609])
+
+
+class Sons(unittest.TestCase):
+    def test_first_man_is_not_his_own_son(self):
+        self.assertEqual(last_reply([("start", 7, 2, 5, 12), ("sons", 0)]), [0, 0])
+
+    def test_grandsons_are_not_told(self):
+        line = [("start", 7, 2, 5, 12)] + [("son", man, man + 1) for man in range(23)]
+        told = behind_it(line, [("sons", man) for man in range(25)])
+        self.assertEqual(told, [[1, 2 ** (man + 1)] for man in range(23)] + [[0, 0], [-2]])
+
+    def test_most(self):
+        sons = [("start", 7, 2, 5, 12)] + [("son", 0, man + 1) for man in range(23)]
+        self.assertEqual(behind_it(sons, [("sons", 0), ("sons", 23)]), [[23, 16777214], [0, 0]])
+
+    def test_dropped_son_is_not_told(self):
+        told = behind_it(FAMILY, [("drop",), ("sons", 3), ("son", 0, 60), ("sons", 0), ("sons", 3)])
+        self.assertEqual(told, [[4], [0, 0], [4, 1, 34], [3, 22], [0, 0]])
+
+
+class Mean(unittest.TestCase):
+    def test_first_has_none_with_sons_and_without(self):
+        self.assertEqual(last_reply([("start", 7, 2, 5, 12), ("mean", 0)]), [-33])
+        self.assertEqual(last_reply(FAMILY + [("mean", 0)]), [-33])
+
+    def test_with_and_without_something_left(self):
+        # The two fathers are 20 years old, then so many that the grandson is born in the year that's told.
+        for year, told in [
+            (40, [20, 0, 2]), (41, [20, 1, 2]), (42, [21, 0, 2]), (21, [10, 1, 2]), (2000, [1000, 0, 2]),
+        ]:
+            calls = [("start", 7, 2, 5, 12), ("son", 0, 20), ("son", 1, year), ("mean", 2)]
+            with self.subTest(year=year):
+                self.assertEqual(last_reply(calls), told)
+
+    def test_long_lines(self):
+        # Each father is a year old, but the last one: the longest line has 23 of them.
+        line = [("start", 7, 2, 5, 12)] + [("son", man, man + 1) for man in range(22)]
+        for year, told in [
+            (23, [1, 0, 23]), (24, [1, 1, 23]), (45, [1, 22, 23]), (46, [2, 0, 23]), (47, [2, 1, 23]),
+            (2000, [86, 22, 23]),
+        ]:
+            with self.subTest(year=year):
+                self.assertEqual(last_reply(line + [("son", 22, year), ("mean", 23)]), told)
+
+    def test_every_man_of_a_long_line(self):
+        # The fathers are 1, 2, 3 .. years old: 1 + .. + n is n times half of n + 1.
+        calls = [("start", 7, 2, 5, 12)]
+        year = 0
+        for man in range(23):
+            year += man + 1
+            calls.append(("son", man, year))
+        told = behind_it(calls, [("mean", man) for man in range(24)])
+        self.assertEqual(told[0], [-33])
+        self.assertEqual(told[1:5], [[1, 0, 1], [1, 1, 2], [2, 0, 3], [2, 2, 4]])
+        for fathers in range(1, 24):
+            left = fathers // 2 if fathers % 2 == 0 else 0
+            self.assertEqual(told[fathers], [(fathers + 1) // 2, left, fathers])
+
+    def test_sets_behind_make_no_difference(self):
+        self.assertEqual(last_reply(FAMILY + [("behind", 8), ("mean", 4)]), [14, 2, 3])
+
+
+class Told(unittest.TestCase):
+    def test_first_man(self):
+        self.assertEqual(last_reply([("start", 7, 2, 5, 12), ("told", 0)]), [0, 0, 0])
+
+    def test_ends(self):
+        line = [("start", 7, 2, 5, 12)] + [("son", man, man + 1) for man in range(22)] + [("son", 22, 2000)]
+        told = behind_it(line, [("told", 23), ("told", 22), ("told", 24)])
+        self.assertEqual(told, [[2000, 22, 23], [22, 21, 22], [-2]])
+
+    def test_another_of_the_same_number(self):
+        self.assertEqual(last_reply(FAMILY + [("drop",), ("son", 2, 50), ("told", 4)]), [50, 2, 2])
+
+    def test_sets_behind_make_no_difference(self):
+        self.assertEqual(last_reply(FAMILY + [("behind", 8), ("told", 4)]), [44, 3, 3])
 
 
 if __name__ == "__main__":

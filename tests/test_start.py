@@ -2,7 +2,7 @@
 
 import unittest
 
-from tests.helper import FAMILY, LARGEST, last_reply, probes, replies
+from tests.helper import FAMILY, LARGEST, behind_it, last_reply, probes, replies, trail
 
 
 class Answer(unittest.TestCase):
@@ -57,23 +57,22 @@ class Bounds(unittest.TestCase):
 class Again(unittest.TestCase):
     def test_begins_anew(self):
         new = ("start", 3, 4, 2, 9)
-        asked = probes()
-        fresh = replies([new] + asked)
-        later = replies(FAMILY + [("behind", 5), new] + asked)
-        self.assertEqual(later[-len(asked):], fresh[1:])
+        for asked in (probes(), trail()):
+            for ahead in (FAMILY + [("behind", 5)], FAMILY + [("behind", 5), ("back",), ("back",)]):
+                self.assertEqual(behind_it(ahead + [new], asked), behind_it([new], asked))
 
     def test_sons_are_numbered_from_1_again(self):
         told = replies(FAMILY + [("start", 3, 4, 2, 9), ("drop",), ("son", 0, 5)])
         self.assertEqual(told[-3:], [[9], [-6], [1, 0, 16]])
 
     def test_refused_leaves_all_as_it_was(self):
-        asked = probes()
-        before = replies(FAMILY + asked)[-len(asked):]
+        ahead = FAMILY + [("behind", 5), ("back",), ("back",)]
         for start in [(0, 3, 3, 3), (21, 3, 3, 3), (3, 9, 3, 3), (3, 3, 13, 3), (3, 3, 3, 101), (LARGEST,) * 4]:
             with self.subTest(start=start):
-                told = replies(FAMILY + [("start",) + start] + asked)
-                self.assertEqual(told[len(FAMILY)], [-22])
-                self.assertEqual(told[-len(asked):], before)
+                for asked in (probes(), trail()):
+                    told = behind_it(ahead, [("start",) + start] + asked)
+                    self.assertEqual(told[0], [-22])
+                    self.assertEqual(told[1:], behind_it(ahead, asked))
 
     def test_refused_keeps_the_sets_behind_that_were_changed(self):
         calls = FAMILY + [("behind", 5), ("start", 0, 3, 3, 3), ("enters", 1)]
